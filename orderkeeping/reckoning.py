@@ -46,6 +46,15 @@ def plan_told(best, needs, days):
     return told
 
 
+def least_of(needs, fees, keeping):
+    return best_orders(needs, fees, keeping).leasts[len(needs)]
+
+
+def least_and_plan(needs, fees, keeping):
+    best = best_orders(needs, fees, keeping)
+    return [best.leasts[len(needs)]] + plan_told(best, needs, len(needs))
+
+
 # A number below 0 says that there's too little that day; what follows it then means nothing.
 def what_lies(needs, ordered):
     lies = []
@@ -56,6 +65,7 @@ def what_lies(needs, ordered):
     return lies
 
 
-def what_it_costs(ordered, lies, fees, keeping):
+# The plan is one by which there's never too little.
+def what_it_costs(needs, ordered, fees, keeping):
     paid = sum([fees[day] for day in range(len(fees)) if ordered[day] > 0])
-    return paid + keeping * sum(lies)
+    return paid + keeping * sum(what_lies(needs, ordered))

@@ -63,7 +63,7 @@ def ask_of(needs, fees, keeping, *calls):
 
 def looking(days):
     """Calls that show all that an object of so many days keeps (they clear it as they go)."""
-    calls = [("lasts",), ("plan",)]
+    calls = [("state",), ("sums",), ("lasts",), ("plan",)]
     calls += [("least", t) for t in range(days + 2)]
     calls += [("need", day, 0) for day in range(days)]
     calls += [("fee", day, 0) for day in range(days)]

@@ -1,8 +1,8 @@
-"""Point 2: least, plan, last, lasts, settled."""
+"""Point 2: least, plan, last, lasts, settled, sure."""
 
 import unittest
 
-from helper import TOP, ask, ask_of
+from helper import TOP, ask, ask_of, looking
 
 
 def seen(needs, fees, keeping):
@@ -135,10 +135,69 @@ class Settled(unittest.TestCase):
         self.assertEqual(ahead, [[1], [1]])
 
 
+class Sure(unittest.TestCase):
+    def sure(self, needs, fees, keeping):
+        """What sure answers; behind it all is as it was."""
+        told = ask_of(needs, fees, keeping, ("sure",), ("sure",), *looking(len(needs)))
+        self.assertEqual(told[0], told[1])
+        self.assertEqual(told[2:], ask_of(needs, fees, keeping, *looking(len(needs))))
+        return told[0]
+
+    def test_nothing_is_needed(self):
+        for days in (1, 2, 10):
+            self.assertEqual(self.sure([0] * days, [0] * days, 0), [-6])
+            self.assertEqual(self.sure([0] * days, [10000] * days, 100), [-6])
+
+    def test_something_is_ordered_and_no_day_settled(self):
+        self.assertEqual(self.sure([0, 5], [1, 9], 1), [-6])
+        self.assertEqual(self.sure([0, 0, 4], [1, 5, 10], 1), [-6])
+
+    def test_day_0_the_only_one(self):
+        self.assertEqual(self.sure([5, 0, 4], [10, 3, 20], 1), [0])
+        self.assertEqual(self.sure([1, 0], [10000, 0], 0), [0])
+
+    def test_one_day(self):
+        self.assertEqual(self.sure([4], [9], 5), [0])
+        self.assertEqual(self.sure([1000], [10000], 100), [0])
+
+    def test_one_that_is_not_day_0(self):
+        self.assertEqual(self.sure([0, 6, 0], [9, 9, 9], 1), [1, 0])
+        self.assertEqual(self.sure([0, 0, 4, 1], [1, 5, 9, 9], 1), [2, 0, 0])
+
+    def test_several(self):
+        self.assertEqual(self.sure([20, 50, 10, 50, 50], [100] * 5, 1), [3, 80, 0, 0])
+        self.assertEqual(self.sure([3, 4, 2], [5, 0, 1], 0), [1, 3])
+
+    def test_the_last_day(self):
+        self.assertEqual(self.sure([1, 1], [9, 1], 2), [1, 1])
+        self.assertEqual(self.sure([0, 0, 6], [9, 9, 9], 1), [2, 0, 0])
+        self.assertEqual(self.sure([1000] * 10, [10000] * 10, 100), [9] + [1000] * 9)
+
+    def test_of_two_as_cheap_the_later_order_settles_its_day(self):
+        self.assertEqual(self.sure([3, 5], [7, 5], 1), [1, 3])
+        self.assertEqual(self.sure([3, 5], [7, 6], 1), [0])
+
+    def test_ahead_of_it_an_order_on_a_day_that_needs_nothing(self):
+        self.assertEqual(self.sure([2, 0, 5, 9], [4, 1, 9, 1], 1), [3, 2, 5, 0])
+
+    def test_an_order_behind_it_that_settles_nothing(self):
+        # The last order is on day 2, which needs nothing: what is told ends ahead of day 1 all the same.
+        needs, fees = [4, 4, 0, 4], [5, 2, 1, 9]
+        self.assertEqual(ask_of(needs, fees, 1, ("lasts",), ("plan",)), [[4, 1, 2, 2, 3], [12, 4, 4, 4, 0]])
+        self.assertEqual(self.sure(needs, fees, 1), [1, 4])
+
+    def test_it_follows_what_is_changed(self):
+        told = ask(("begin", 2, 1), ("sure",), ("need", 1, 5), ("sure",), ("need", 0, 1), ("sure",),
+                   ("fee", 1, 6), ("sure",), ("keep", 2), ("sure",))
+        self.assertEqual(told[1::2], [[-6], [1, 0], [1, 1], [0], [1, 1]])
+
+
 class NothingIsChanged(unittest.TestCase):
     def test_asking_changes_nothing(self):
         asked = [("least", 3), ("least", 4), ("plan",), ("last", 3), ("last", 4), ("lasts",), ("settled", 0),
-                 ("settled", 3), ("cost", [9, 0, 0]), ("shelf", [9, 0, 0]), ("cost", [0, 0, 0]), ("shelf", [9])]
+                 ("settled", 3), ("cost", [9, 0, 0]), ("shelf", [9, 0, 0]), ("cost", [0, 0, 0]), ("shelf", [9]),
+                 ("sure",), ("each",), ("once",), ("would", 0, 7), ("dear", 0, 7), ("together", [1, 2, 3]),
+                 ("span", 0, 2), ("rest", 1), ("sums",), ("state",)]
         told = ask_of([5, 0, 4], [10, 3, 20], 1, *asked, *asked, ("need", 0, 1), ("need", 1, 1), ("need", 2, 1),
                       ("fee", 0, 1), ("fee", 1, 1), ("fee", 2, 1), ("keep", 0))
         count = len(asked)

@@ -1,4 +1,4 @@
-"""Point 3: cost, shelf."""
+"""Point 3: cost, shelf, each, once."""
 
 import unittest
 
@@ -84,6 +84,50 @@ class RefusedPlans(unittest.TestCase):
                 told = ask_of([5, 4], [2, 3], 1, (name, plan), *looking(2))
                 self.assertLess(told[0][0], 0)
                 self.assertEqual(told[1:], as_it_was)
+
+
+class EachAndOnce(unittest.TestCase):
+    def both(self, needs, fees, keeping):
+        """What each and once answer; they are what cost tells of these plans, and change nothing."""
+        days = len(needs)
+        told = ask_of(needs, fees, keeping, ("each",), ("once",), ("cost", needs),
+                      ("cost", [sum(needs)] + [0] * (days - 1)), *looking(days))
+        self.assertEqual((told[0][0], told[1][0]), (told[2][0], told[3][0]))
+        self.assertEqual(told[4:], ask_of(needs, fees, keeping, *looking(days)))
+        self.assertEqual((len(told[0]), len(told[1])), (1, 1))
+        return told[0][0], told[1][0]
+
+    def test_ordinary(self):
+        self.assertEqual(self.both([5, 2, 4], [10, 3, 20], 1), (33, 20))
+        self.assertEqual(self.both([5, 2, 4], [10, 3, 20], 3), (33, 40))
+
+    def test_nothing_is_needed(self):
+        for days in (1, 2, 10):
+            self.assertEqual(self.both([0] * days, [10000] * days, 100), (0, 0))
+
+    def test_days_that_need_nothing_cost_no_fee(self):
+        self.assertEqual(self.both([0, 2, 4], [10, 3, 20], 1), (23, 20))
+        self.assertEqual(self.both([5, 0, 4], [10, 3, 20], 1), (30, 18))
+        self.assertEqual(self.both([5, 2, 0], [10, 3, 20], 1), (13, 12))
+        self.assertEqual(self.both([0, 0, 4], [10, 3, 20], 1), (20, 18))
+
+    def test_once_is_on_day_0_though_it_needs_nothing(self):
+        self.assertEqual(self.both([0, 1], [7, 1], 0), (1, 7))
+        self.assertEqual(self.both([0, 1], [0, 1], 0), (1, 0))
+
+    def test_one_day(self):
+        self.assertEqual(self.both([4], [9], 5), (9, 9))
+        self.assertEqual(self.both([0], [9], 5), (0, 0))
+        self.assertEqual(self.both([1], [0], 5), (0, 0))
+
+    def test_no_fees_or_keeping_for_nothing(self):
+        self.assertEqual(self.both([3, 4, 2], [0, 0, 0], 2), (0, 16))
+        self.assertEqual(self.both([3, 4, 2], [5, 6, 7], 0), (18, 5))
+        self.assertEqual(self.both([3, 4, 2], [0, 0, 0], 0), (0, 0))
+
+    def test_the_greatest_numbers(self):
+        # 1,000 pieces each over 1 to 9 nights, for 100 each.
+        self.assertEqual(self.both([1000] * 10, [10000] * 10, 100), (100000, 10000 + 100 * 1000 * 45))
 
 
 if __name__ == "__main__":

@@ -24,7 +24,7 @@ class Begin(unittest.TestCase):
     def test_nothing_is_needed_and_no_fees(self):
         self.assertEqual(
             ask(("begin", 2, 7), *looking(2)),
-            [[0], [2, 0, 0], [0, 0, 0], [0], [0], [0], [-22], [0], [0], [0], [0], [7]],
+            [[0], [2, 0, 0, 0, 0], [0, 0, 0, 7], [2, 0, 0], [0, 0, 0], [0], [0], [0], [-22], [0], [0], [0], [0], [7]],
         )
 
     def test_a_begin_behind_a_begin_starts_anew(self):

@@ -1,4 +1,4 @@
-"""What holds, a and b: held against plans tried one by one, and against the words taken literally."""
+"""What holds, a to e: held against plans tried one by one, and against the words taken literally."""
 
 import unittest
 from itertools import product
@@ -93,6 +93,105 @@ class WhatHolds(unittest.TestCase):
                 spent = cost_of(needs, fees, keeping, plan)
                 self.assertEqual((cost, shelf), ([spent, spent - told[0]], [sum(lies)] + lies))
                 self.assertGreaterEqual(cost[1], 0)
+
+    def test_what_would_be_by_all_plans(self):
+        source = Random(7)
+        for needs, fees, keeping in drawn(8, 60, 3, 3, 6, 3):
+            day, n = source.randrange(len(needs)), source.randint(0, 4)
+            changed = needs[:day] + [n] + needs[day + 1:]
+            self.hold_of_one("would", (needs, fees), (changed, fees), keeping, day, n)
+            changed = fees[:day] + [n] + fees[day + 1:]
+            self.hold_of_one("dear", (needs, fees), (needs, changed), keeping, day, n)
+
+    def hold_of_one(self, name, ahead, then, keeping, day, n):
+        """That would or dear tells the least of what would be then, and a plan that costs just that."""
+        needs, fees = then
+        told = ask_of(*ahead, keeping, (name, day, n))[0]
+        case = (name, ahead, keeping, day, n)
+        self.assertEqual(told[0], least_of_all_plans(needs, fees, keeping), case)
+        self.assertEqual(told[0], cost_of(needs, fees, keeping, told[1:]), case)
+        self.assertEqual(told[1:], plan_as_told(needs, fees, keeping, len(needs)), case)
+        lies = [0] + lies_behind(needs, told[1:])
+        self.assertTrue(all(lies[place] == 0 for place, n in enumerate(told[1:]) if n), case)
+
+
+class OnceSettled(unittest.TestCase):
+    def test_sure_tells_the_last_settled_day_and_the_plan_ahead_of_it(self):
+        for needs, fees, keeping in drawn(11, 150, 6, 4, 8, 2):
+            days = len(needs)
+            lasts = [last_as_told(needs, fees, keeping, t + 1) for t in range(days)]
+            found = [day for day in range(days) if lasts[day] == day + 1]
+            right = [found[-1]] + plan_as_told(needs, fees, keeping, found[-1]) if found else [-6]
+            self.assertEqual(ask_of(needs, fees, keeping, ("sure",)), [right], (needs, fees, keeping))
+
+    def test_what_is_before_stays_best_whatever_is_needed_later(self):
+        source = Random(12)
+        held = 0
+        for needs, fees, keeping in drawn(13, 150, 10, 12, 30, 4):
+            sure = ask_of(needs, fees, keeping, ("sure",))[0]
+            if sure != [-6]:
+                day = sure[0]
+                later = [source.choice([0, source.randint(0, 30)]) for place in needs[day + 1:]]
+                self.hold_once_settled(needs[:day + 1] + later, fees, keeping, sure)
+                held += 1
+        self.assertGreater(held, 100)
+
+    def hold_once_settled(self, needs, fees, keeping, sure):
+        """That for more days it's the least before and the least from then on, by the plan that was told."""
+        day, days = sure[0], len(needs)
+        case = (needs, fees, keeping, day)
+        told = ask_of(needs, fees, keeping, ("settled", day), ("plan",), ("rest", day),
+                      *[("least", t) for t in range(days + 1)])
+        leasts = [part[0] for part in told[3:]]
+        self.assertEqual(told[0], [1], case)
+        self.assertEqual(told[1][1:day + 1], sure[1:], case)
+        self.assertEqual(sum(told[2]), leasts[days], case)
+        for t in range(day + 1, days + 1):
+            from_then_on = least_of_order_days(needs[day:t], fees[day:t], keeping)
+            self.assertEqual(leasts[t], leasts[day] + from_then_on, case)
+
+
+class TogetherAndApart(unittest.TestCase):
+    def test_together_is_no_dearer_than_apart(self):
+        source = Random(14)
+        saved = 0
+        for needs, fees, keeping in drawn(15, 150, 7, 9, 30, 4):
+            other = [source.choice([0, source.randint(0, 9)]) for day in needs]
+            both = [n + m for n, m in zip(needs, other)]
+            apart = least_of_order_days(needs, fees, keeping) + least_of_order_days(other, fees, keeping)
+            told = ask_of(needs, fees, keeping, ("together", other))[0]
+            self.assertEqual(told, [least_of_order_days(both, fees, keeping), apart], (needs, fees, keeping, other))
+            self.assertLessEqual(told[0], told[1])
+            saved += told[0] < told[1]
+        self.assertGreater(saved, 50)
+
+    def test_more_needed_dearer_fees_dearer_keeping_never_cheaper(self):
+        source = Random(16)
+        for needs, fees, keeping in drawn(17, 200, 10, 12, 40, 5):
+            day = source.randrange(len(needs))
+            told = ask_of(needs, fees, keeping, ("plan",), ("would", day, needs[day] + source.randint(0, 20)),
+                          ("dear", day, fees[day] + source.randint(0, 40)), ("keep", keeping + source.randint(0, 5)),
+                          ("plan",))
+            for part in (told[1], told[2], told[4]):
+                self.assertGreaterEqual(part[0], told[0][0], (needs, fees, keeping, day))
+
+    def test_one_part_behind_the_other_is_never_cheaper_than_all_at_once(self):
+        dearer = 0
+        for needs, fees, keeping in drawn(18, 100, 7, 9, 30, 4):
+            days = len(needs)
+            told = ask_of(needs, fees, keeping, ("plan",), *[("rest", t) for t in range(days + 1)])
+            for t, part in enumerate(told[1:]):
+                behind = least_of_order_days(needs[t:], fees[t:], keeping)
+                self.assertEqual(part, [behind, least_of_order_days(needs[:t], fees[:t], keeping)])
+                self.assertGreaterEqual(sum(part), told[0][0], (needs, fees, keeping, t))
+                dearer += sum(part) > told[0][0]
+            self.assertEqual((sum(told[1]), sum(told[-1])), (told[0][0], told[0][0]))
+        self.assertGreater(dearer, 50)
+
+    def test_none_is_cheaper_than_the_least(self):
+        for needs, fees, keeping in drawn(19, 200, 10, 12, 40, 5):
+            plan, each, once = ask_of(needs, fees, keeping, ("plan",), ("each",), ("once",))
+            self.assertLessEqual(plan[0], min(each[0], once[0]), (needs, fees, keeping))
 
 
 if __name__ == "__main__":
